@@ -1,0 +1,1 @@
+"""Asunmoved: reading rows part by part while they are moved."""

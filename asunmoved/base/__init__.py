@@ -1,0 +1,1 @@
+"""Movers, their joint placements and the ways between these."""

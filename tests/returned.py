@@ -1,0 +1,5 @@
+"""Values that the package returned."""
+
+
+def returned():
+    return []
