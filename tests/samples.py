@@ -1,8 +1,9 @@
-"""Movers that the tests use: those of the document, and random ones told by plain values."""
+"""Movers and readers that the tests use: those of the document, and random ones told by plain values."""
 import itertools
 import random
 
 from asunmoved.base.movers import Mover
+from asunmoved.read.readers import Reader
 
 PARTS, PLACES = ("archive", "live"), {"new": ("live",), "old": ("archive",)}
 OUT = Mover(PARTS, ("orders", PLACES, (("new", "old"),)))
@@ -14,6 +15,8 @@ CHAIN = Mover(
     PARTS, ITEMS, ("orders", PLACES, (("new", "old"),)),
     bonds=((("new", "new"), ("old", "new"), ("old", "old")),),
 )
+AHEAD = Reader.reading("orders", "live", "archive")
+AGAIN = AHEAD.with_line(2, ("if", "orders", "live", 0))
 
 SIX = {"a": (), "b": ("x",), "c": ("y",), "d": ("z",), "e": ("x", "y"), "f": ("x", "y")}
 WIDE = Mover(
@@ -110,3 +113,66 @@ def mover_told(spec):
 def random_specs(seed, many):
     rng = random.Random(seed)
     return [random_spec(rng) for _ in range(many)]
+
+
+def random_lines(rng, spec, many=None):
+    """Lines of a reader that fits the mover."""
+    names = [table[0] for table in spec[1]]
+    pairs = [(table, part) for table in names for part in spec[0]]
+    tested = rng.sample(pairs, min(len(pairs), rng.randint(0, 6)))
+    many = rng.randint(0, 9) if many is None else many
+    lines = []
+    for _ in range(many):
+        kind = rng.choice(["read", "read", "look", "if", "if", "go"])
+        pair = rng.choice(pairs)
+        if kind == "look" and pair[0] != names[0]:
+            lines.append(("look", *pair))
+        elif kind == "if" and tested:
+            lines.append(("if", *rng.choice(tested), rng.randint(0, many)))
+        elif kind == "go" and rng.random() < 0.5:
+            lines.append(("go", rng.randint(0, many)))
+        else:
+            lines.append(("read", *pair))
+    return tuple(lines)
+
+
+def beginning_told(spec, lines, joint):
+    tested = tuple(sorted({line[1:3] for line in lines if line[0] == "if"}))
+    return (0, joint, (False,) * len(spec[1]), tested)
+
+
+def behind_told(spec, lines, situation, event):
+    """The situation behind an event, or None, by the definition."""
+    at, joint, seen, risen = situation
+    tested = {line[1:3] for line in lines if line[0] == "if"}
+    if at == len(lines):
+        return None
+    if event[0] == "step":
+        if not leads_told(spec, joint, event[1]):
+            return None
+        come = set(came_told(spec, joint, event[1]))
+        return (at, event[1], seen, tuple(sorted(set(risen) | (come & tested))))
+    if event[0] == "touch":
+        return (at, joint, seen, tuple(sorted(set(risen) | ({event[1:]} & tested))))
+    return line_told(spec, lines[at], situation)
+
+
+def line_told(spec, line, situation):
+    at, joint, seen, risen = situation
+    if line[0] == "go":
+        return (line[1], joint, seen, risen)
+    if line[0] == "if":
+        return (line[3] if line[1:3] in risen else at + 1, joint, seen, risen)
+    place = [table[0] for table in spec[1]].index(line[1])
+    truths = list(seen)
+    if line[2] in spec[1][place][1][joint[place]] and (line[0] == "read" or seen[place - 1]):
+        truths[place] = True
+    return (at + 1, joint, tuple(truths), tuple(pair for pair in risen if pair != line[1:]))
+
+
+def events_told(spec, lines, situation):
+    """All events that can be made in a situation."""
+    touches = [("touch", table[0], part) for table in spec[1] for part in spec[0]]
+    steps = [("step", joint) for joint in joints_told(spec)]
+    every = [("next",)] + touches + steps
+    return [event for event in every if behind_told(spec, lines, situation, event) is not None]

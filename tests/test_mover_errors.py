@@ -158,11 +158,9 @@ class Methods(unittest.TestCase):
                 CHAIN.with_parts("orders", "old", parts)
 
     def test_with_bond(self):
-        bonds = [(("new", "old"),)]
-        check_errors(
-            self, CHAIN.with_bond, ["items", bonds[0]],
-            [due_table(CHAIN), Due(InvalidOperation, None, lambda value: value == () or among(bonds)(value))],
-        )
+        bonds = [(("new", "old"),), CHAIN.bonds[0], ()]
+        dues = [due_table(CHAIN), Due(InvalidOperation, None, among(bonds))]
+        check_errors(self, CHAIN.with_bond, ["items", bonds[0]], dues)
         for bond in bonds + [(), None, (("new", "mid"),)]:
             with self.assertRaises(InvalidOperation):
                 CHAIN.with_bond("orders", bond)
@@ -185,7 +183,7 @@ class Methods(unittest.TestCase):
         wrongs = [
             {}, {"archive": "a"}, {"archive": "a", "live": "b", "other": "c"}, {"archive": "a", "live": "a"},
             {"archive": "a", "live": "B"}, {"archive": "a", "live": 1}, {"archive": "a", "live": ["b"]},
-            {"archive": "a", "other": "b"}, {"archive": "a", 1: "b"}, (("archive", "a"), ("live", "b")),
+            {"archive": "a", "live": "b", "other": "a"}, {"archive": "a", "other": "b"}, {"archive": "a", 1: "b"}, (("archive", "a"), ("live", "b")),
             {"archive": None, "live": None}, {"archive": ("a",), "live": ("a",)}, {"archive": {}, "live": "b"},
         ]
         for value in wrongs + [value for value in strange() if value is not None]:
@@ -205,6 +203,7 @@ class Methods(unittest.TestCase):
         others = [
             COPY, CHAIN, OUT.with_parts("orders", "new", ()), OUT.renamed(tables={"orders": "items"}),
             OUT.renamed(parts={"archive": "archive", "live": "other"}),
+            Mover(("archive", "live", "other"), ("orders", PLACES, (("new", "old"),))),
         ]
         for value in strange() + others:
             if not (isinstance(value, Mover) and value in (OUT, BOTH)):

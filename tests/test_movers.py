@@ -254,6 +254,7 @@ class Asked(unittest.TestCase):
         self.assertIs(OUT.is_within(OUT.renamed(tables={"orders": "items"})), False)
         self.assertIs(OUT.is_within(OUT.renamed(parts={"archive": "archive", "live": "other"})), False)
         self.assertIs(OUT.is_within(COPY), False)
+        self.assertIs(OUT.is_within(Mover(("archive", "live", "other"), ("orders", PLACES, (("new", "old"),)))), False)
         for value in strange():
             if not isinstance(value, Mover):
                 self.assertIs(CHAIN.is_within(value), False)

@@ -252,7 +252,7 @@ class Mover:
         return Mover.of(self._parts, tuple(told), bonds=tuple(bonds))
 
     def __contains__(self, x):
-        return isinstance(x, str) and x in self._tables
+        return x in self._tables
 
     def __iter__(self):
         return iter(self._tables)

@@ -1,0 +1,1 @@
+"""Readers, and their runs beside one chain of rows."""
