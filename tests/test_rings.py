@@ -1,3 +1,4 @@
+import time
 import types
 import unittest
 
@@ -219,6 +220,43 @@ class Walks(unittest.TestCase):
         self.assertEqual(len(list(walks(mover, 498))), 1 + 3 * 499)
         with self.assertRaises(TooMany):
             list(walks(mover, 499))
+
+    def test_too_many_by_the_hundred(self):
+        two = Mover(("b", "c"), ("t", {"x": ("b",), "y": ("b",)}, (("x", "y"), ("y", "x"))))
+        four = one_table("abcd", *[one + other for one in "abcd" for other in "abcd" if one != other])
+        tail = one_table("abc", "ab", "ba", "bc")
+        calls = [
+            lambda: list(walks(two, 10 ** 30)), lambda: list(walks(two, 750)), lambda: next(walks(two, 750)),
+            lambda: list(walks(four, 6)), lambda: next(walks(tail, 745)),
+        ]
+        began = time.process_time()
+        for call in calls * 40:
+            with self.assertRaises(TooMany) as caught:
+                call()
+            self.assertEqual(caught.exception.limit, 1500)
+        self.assertLess(time.process_time() - began, 1.5)
+
+    def test_fifteen_hundred_ways_in_their_order(self):
+        two = Mover(("b", "c"), ("t", {"x": ("b",), "y": ("b",)}, (("x", "y"), ("y", "x"))))
+        told = [single(*("xy" * 400)[at:at + many]) for many in range(1, 751) for at in (0, 1)]
+        self.assertEqual(list(walks(two, 749)), told)
+        self.assertEqual((len(told), next(walks(two, 749))), (1500, single("x")))
+
+    def test_just_too_many(self):
+        # One way that stays in the ring and one that leaves it at the end, of each length from each joint placement.
+        tail = one_table("abc", "ab", "ba", "bc")
+        steps = {("a",): [("b",)], ("b",): [("a",), ("c",)], ("c",): []}
+        many = 0
+        while len(self.told(steps, many + 1)) <= 1500:
+            many += 50
+        many -= 50
+        while len(self.told(steps, many + 1)) <= 1500:
+            many += 1
+        self.assertEqual(list(walks(tail, many)), self.told(steps, many))
+        self.assertGreater(len(self.told(steps, many)), 1490)
+        for more in (many + 1, many + 2, 749, 750, 10 ** 30):
+            with self.assertRaises(TooMany):
+                next(walks(tail, more))
 
     def test_a_generator_that_raises_late(self):
         self.assertIsInstance(walks(BOTH, 2), types.GeneratorType)

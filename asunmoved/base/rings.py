@@ -14,7 +14,7 @@ def first_ways(steps, joint):
     last = [joint]
     while last:
         reached = []
-        for here in last:
+        for here in list(last):
             for after in steps[here]:
                 if after not in before:
                     before[after] = here
@@ -107,24 +107,49 @@ def is_way_paper(mover, joint, after, value):
     return False
 
 
-def short_ways(steps, many):
-    """All ways with at most so many joint steps, shorter ones first."""
-    found = []
-    last = [(joint,) for joint in steps]
+def endless_starts(steps):
+    """The joint placements from which ways of every length lead."""
+    left = list(steps)
+    kept = [joint for joint in left if len(steps[joint]) > 0]
+    while len(kept) < len(left):
+        left = list(kept)
+        kept = [joint for joint in left if any([after in left for after in steps[joint]])]
+    return kept
+
+
+def need_few_ways(steps, many):
+    """Raise the error that is due if there are too many ways with at most so many joint steps."""
+    # Each of these joint placements begins a way of each length, so a great number need not be counted up to.
+    if len(endless_starts(steps)) * (many + 1) > MAX_WALKS:
+        raise TooMany(MAX_WALKS)
+    total = 0
     done = 0
-    while last:
-        found.extend(last)
-        if len(found) > MAX_WALKS:
+    begun = {joint: 1 for joint in steps}
+    while begun:
+        total = total + sum(list(begun.values()))
+        if total > MAX_WALKS:
             raise TooMany(MAX_WALKS)
-        # The number of steps can be great, so the ways end the loop as soon as none is longer.
-        last = [(*way, after) for way in last for after in steps[way[-1]]] if done < many else []
+        begun = longer_ways(steps, begun) if done < many else {}
         done = done + 1
-    return found
+
+
+def longer_ways(steps, begun):
+    """A dict from joint placements to how many ways begin there, of a joint step more than those of a dict."""
+    counts = {joint: sum([begun[after] for after in steps[joint] if after in begun]) for joint in steps}
+    return {joint: counts[joint] for joint in counts if counts[joint] > 0}
 
 
 def walks(mover, many):
     """A generator of all ways with at most so many joint steps."""
     need_mover(mover)
     need_many(many)
-    for way in short_ways(step_table(mover), many):
-        yield way
+    steps = step_table(mover)
+    need_few_ways(steps, many)
+    last = [(joint,) for joint in steps]
+    done = 0
+    while last:
+        for way in last:
+            yield way
+        # The number of steps can be great, so the ways end the loop as soon as none is longer.
+        last = [(*way, after) for way in last for after in steps[way[-1]]] if done < many else []
+        done = done + 1
