@@ -176,3 +176,13 @@ def events_told(spec, lines, situation):
     steps = [("step", joint) for joint in joints_told(spec)]
     every = [("next",)] + touches + steps
     return [event for event in every if behind_told(spec, lines, situation, event) is not None]
+
+
+def truths(many):
+    """All tuples of so many truths."""
+    return list(itertools.product((False, True), repeat=many))
+
+
+def some_of(values):
+    """All ascending tuples of some values of an ascending tuple."""
+    return [chosen for many in range(len(values) + 1) for chosen in itertools.combinations(values, many)]

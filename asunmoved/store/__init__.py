@@ -1,0 +1,1 @@
+"""Stores of rows, and questions to them."""
