@@ -1,13 +1,37 @@
 """Values that the package returned."""
 from asunmoved.base.joints import joint_placements
+from asunmoved.base.movers import Mover
 from asunmoved.base.rings import ring_classes, walks, way_paper
+from asunmoved.read.lengths import length_paper, nodes
 from asunmoved.read.papers import hidden, missed_paper, reader_paper, situations
 from asunmoved.read.readers import Reader
 from asunmoved.read.runs import ChainRun, beginnings
+from asunmoved.store.stores import Question, Store
+from asunmoved.words.cheapest import cheapest_paper, set_values
+from asunmoved.words.extras import extras_paper
 from asunmoved.words.readable import careful_reader, readable_paper
 from asunmoved.words.readings import reading_paper, unseen_sets
 
 from tests.samples import AGAIN, AHEAD, BOTH, CHAIN, COPY, OUT
+
+OTHER = COPY.renamed(tables={"orders": "other"})
+KEY = ("other", "new", "archive")
+
+
+def of_words():
+    """Values that the modules about readings returned."""
+    prices, offer = {"archive": 2, "live": 3}, {("orders", "new", "archive"): 4, ("orders", "old", "live"): 3}
+    return [
+        cheapest_paper(COPY, "orders", prices), set_values(COPY, "orders", prices),
+        extras_paper(COPY, {"orders": ("live",)}, offer), extras_paper(OTHER, {"other": ("live", "live")}, {KEY: 7}),
+    ]
+
+
+def of_stores():
+    """Values that the module about stores returned."""
+    rows = ("rows", ("o", None, 5), "a"), ("rows", ("i", None, 2), "b")
+    store, question = Store(Mover.single(("a", "b")), *rows), Question(tags=(1, 2))
+    return [store, question, store.chains(), list(store.chains())[0], store.rows("rows"), [question.limits], store.entries]
 
 
 def returned():
@@ -20,5 +44,5 @@ def returned():
         situations(COPY, AHEAD), reader_paper(COPY, AHEAD), missed_paper(CHAIN, AHEAD), hidden(OUT, AHEAD, 1),
         unseen_sets(COPY, "orders", ("live",)), reading_paper(COPY, "orders", ("live",)), careful_reader(CHAIN),
         reading_paper(CHAIN, "items", ("live", "archive")), readable_paper(CHAIN, "items"),
-        readable_paper(BOTH.renamed(tables={"orders": "other"}), "other")[2],
-    ]
+        readable_paper(BOTH.renamed(tables={"orders": "other"}), "other")[2], nodes(AHEAD), length_paper(AHEAD),
+    ] + of_words() + of_stores()

@@ -25,9 +25,14 @@ def ascending(values):
     return tuple(sorted(set(values)))
 
 
+def is_whole_number(value):
+    """Whether the value is an integer; True and False are none."""
+    return isinstance(value, int) and not isinstance(value, bool)
+
+
 def is_number(value):
-    """Whether the value is an integer of at least 0; True and False are none."""
-    return isinstance(value, int) and not isinstance(value, bool) and value >= 0
+    """Whether the value is an integer of at least 0."""
+    return is_whole_number(value) and value >= 0
 
 
 def is_number_within(value, most):

@@ -98,6 +98,10 @@ class Lines:
         """The bits of all tested pairs."""
         return (1 << len(self._tested)) - 1
 
+    def at_line(self, at):
+        """The integer with this line and nothing else."""
+        return at * ONE_LINE
+
     def line_of(self, code):
         """The number of the next line."""
         return code >> LINE_AT
