@@ -204,7 +204,8 @@ class Cheapest(unittest.TestCase):
         self.assertIs(meets(with_extras(BOTH, chosen), "orders", READINGS["orders"]), True)
         for some in ((NEW,), (OLD,), (NEW, OLD)):
             self.assertIs(is_extras_paper(BOTH, READINGS, prices, ("bought", 0, some, ("dear",))), True)
-        self.assertIs(is_extras_paper(BOTH, READINGS, prices, ("bought", 0, (), ("dear",))), False)
+        for some in ((), (OLD, NEW), (OLD, OLD), (NEW, NEW), (NEW, OLD, OLD)):
+            self.assertIs(is_extras_paper(BOTH, READINGS, prices, ("bought", 0, some, ("dear",))), False)
 
     def test_eight_and_nine_keys(self):
         names = "abcdef"
@@ -270,6 +271,8 @@ class Papers(unittest.TestCase):
             ("split", OLD, ("split", NEW, without[:2], ("dear",)), ("dear",)), ("split", OLD, ("split", NEW, without, ("dear", ())), ("dear",)),
             ("split", OLD, ("split", NEW, ("missed", "items", without[2]), ("dear",)), ("dear",)),
             ("split", OLD, ("split", NEW, ("missed", "orders", ("met", ())), ("dear",)), ("dear",)),
+            ("split", OLD, ("split", NEW, ("misses", *without[1:]), ("dear",)), ("dear",)),
+            ("split", OLD, ("split", NEW, (*without, ()), ("dear",)), ("dear",)), ("split", OLD, ("split", NEW, without, ("dear",))),
             ("split", OLD, ["split", NEW, without, ("dear",)], ("dear",)), ("split", list(OLD), ("split", NEW, without, ("dear",)), ("dear",)),
         ]
         for tree in wrongs:
@@ -331,6 +334,7 @@ class Papers(unittest.TestCase):
             right = among([("missed", (("new",),), ()), ("missed", (("old",),), ())])(value)
             self.assertIs(is_extras_paper(BOTH, {"orders": ()}, PRICES, ("never", "orders", value)), right)
             self.assertIs(is_extras_paper(BOTH, {"orders": ()}, PRICES, value), False)
+            self.assertIs(is_extras_paper(BOTH, {"orders": ()}, PRICES, (value, *never[1:])), value == "never")
         one = {OLD: 1, NEW: 9}
         tree = extras_paper(BOTH, READINGS, one)[3]
         self.assertIs(is_extras_paper(BOTH, READINGS, one, (word, 1, chosen, tree)), True)

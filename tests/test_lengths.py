@@ -297,6 +297,21 @@ class Papers(unittest.TestCase):
         for course in ((NEXT, NEXT), (NEXT, NEXT, TOUCH), (NEXT, NEXT, NEXT), (NEXT, TOUCH, NEXT), ()):
             self.assertIs(is_length_paper(ended, ("rings", course, 2)), False)
 
+    def test_a_ring_that_is_reached_by_touches(self):
+        pairs = [("orders", "archive"), LIVE, ("items", "live")]
+        lines = [("read", *pair) for pair in pairs] + [("if", *pair, 8) for pair in pairs[1:]] + [("go", 9), ("if", *pairs[0], 9)]
+        reader = Reader.of((*lines, ("go", 9), ("go", 8)))
+        self.assertEqual(len(reader), 9)
+        paper = length_paper(reader)
+        self.assertTrue(self.is_ring(PlainNodes(reader.lines), *paper[1:]))
+        self.assertEqual((paper[0], len(paper[1]), paper[2]), ("rings", 5, 1))
+        self.assertEqual(len([event for event in paper[1] if event != NEXT]), 1)
+
+    def test_a_touch_beside_a_pair_that_has_risen(self):
+        reader = Reader(("read", *LIVE), ("if", *LIVE, 4), ("if", "items", "live", 5), ("go", 5), ("go", 4))
+        self.assertEqual(length_paper(reader), ("rings", (NEXT, TOUCH, NEXT), 1))
+        self.assertIs(is_length_paper(reader, length_paper(reader)), True)
+
     def test_edges(self):
         self.assertEqual(length_paper(Reader()), ("settles", (((0, ()), 0),)))
         self.assertIs(is_length_paper(Reader(), ("settles", (((0, ()), 10 ** 39),))), True)
@@ -319,6 +334,7 @@ class Papers(unittest.TestCase):
             ("settles", (((0, [LIVE]), 3), *pairs[1:])), ("settles", (((False, (LIVE,)), 3), *pairs[1:])),
             ("settles", ([(0, (LIVE,)), 3], *pairs[1:])), ("settles", (((0, (LIVE,)), "3"), *pairs[1:])),
             ("settles", (*pairs[:-1], (pairs[-1][0], False))), ("settles", (*pairs[:-1], (pairs[-1][0], -1))),
+            ("settles", (*pairs[:-1], ((3, (LIVE,)), 0))), ("settles", (((0, (LIVE, LIVE)), 3), *pairs[1:])),
             ("settles", (*pairs, ((4, ()), 0))), ("settles", ((0, (LIVE,), 3), *pairs[1:])), ("rings", (), 1), ("whole", pairs),
         ]
         for value in wrongs + strange():
@@ -331,7 +347,7 @@ class Papers(unittest.TestCase):
             told = ("settles", ((pairs[0][0], value), *pairs[1:]))
             self.assertIs(is_length_paper(AGAIN, told), among([3])(value))
         reader = Reader(("go", 0), ("if", *LIVE, 0))
-        for value in strange() + [["next"], "next", ("next", 1), ("go", 0), ("touch", *LIVE, 1), ("touch", list(LIVE))]:
+        for value in strange() + [["next"], "next", ("next", 1), ("go", 0), ("touch", *LIVE, 1), ("touch", list(LIVE)), ("if", *LIVE)]:
             self.assertIs(is_length_paper(reader, ("rings", value, 1)), value in ((), (NEXT,)) and type(value) is tuple)
             self.assertIs(is_length_paper(reader, ("rings", (value,), 1)), among([NEXT, TOUCH])(value))
             self.assertIs(is_length_paper(reader, ("rings", (), value)), type(value) is int and value > 0)

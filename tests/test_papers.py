@@ -245,7 +245,8 @@ class Checked(unittest.TestCase):
         around = (("step", ("new",)), ("step", ("old",))) * 5000
         self.assertIs(is_reader_paper(BOTH, AHEAD, ("missed", ("old",), around + slow)), True)
         self.assertIs(is_reader_paper(BOTH, AHEAD, ("missed", ("new",), around + slow)), False)
-        for events in (slow[:-1], slow + (NEXT,), slow[1:], (NEXT, NEXT), (), (NEXT, ("step", ("old",)), NEXT)):
+        for events in (slow[:-1], slow + (NEXT,), slow[1:], (NEXT, NEXT), (), (NEXT, ("step", ("old",)), NEXT),
+                       (NEXT, ("steps", ("new",)), NEXT), (NEXT, (None, ("new",)), NEXT)):
             self.assertIs(is_reader_paper(BOTH, AHEAD, ("missed", ("old",), events)), False)
         self.assertIs(is_reader_paper(OUT, AHEAD, ("missed", ("old",), slow)), False)
 
@@ -256,6 +257,7 @@ class Checked(unittest.TestCase):
             here, joint, seen, risen = least[at]
             others = [(here, joint, (0,), risen), (bool(here), joint, seen, risen), [here, joint, seen, risen],
                       (here, list(joint), seen, risen), (here, joint, list(seen), risen), (here, joint, seen, [])]
+            others += [(here, joint, (False, False), risen), (here, joint, (), risen), (here, joint, seen, (LIVE,))]
             for other in others:
                 self.assertIs(is_reader_paper(OUT, AHEAD, ("whole", least[:at] + (other,) + least[at + 1:])), False)
         seen_first = (1, ("new", "new"), (True, False), ())
@@ -267,6 +269,20 @@ class Checked(unittest.TestCase):
         changed = tuple((*one[:2], (1, False), one[3]) if one == seen_first else one for one in told)
         self.assertEqual(changed, told)
         self.assertIs(is_reader_paper(CHAIN, items, ("whole", changed)), False)
+
+    def test_risen_pairs(self):
+        reader = Reader(("if", *LIVE, 0), ("if", "orders", "archive", 0), ("read", *LIVE), ("read", "orders", "archive"), ("go", 0))
+        plain = Plain((OUT.parts, (("orders", OUT.placements("orders"), OUT.steps("orders")),), None), reader.lines)
+        every = plain.every_open()
+        self.assertIs(is_reader_paper(OUT, reader, ("whole", tuple(every))), True)
+        archive = ("orders", "archive")
+        for at, (here, joint, seen, risen) in enumerate(every):
+            for other in ((LIVE, LIVE), (archive, archive), (LIVE, archive), (archive, LIVE, LIVE), (LIVE, ("items", "live"))):
+                if other != risen:
+                    told = sorted([*every[:at], (here, joint, seen, other), *every[at + 1:]])
+                    self.assertIs(is_reader_paper(OUT, reader, ("whole", tuple(told))), False)
+                    paper = ("whole", (*every[:at], (here, joint, seen, other), *every[at + 1:]))
+                    self.assertIs(is_reader_paper(OUT, reader, paper), False)
 
     def test_forms_that_are_no_papers(self):
         least = tuple(listed(OUT, AHEAD))
@@ -298,7 +314,8 @@ class Checked(unittest.TestCase):
         pairs = [LIVE, ("orders", "archive")]
         rights = among([("touch", *pair) for pair in pairs] + [("step", ("new",))])
         wrongs = [("touch", "items", "live"), ("touch", "orders", "other"), ("touch", *LIVE, 1), ("touch", ["orders"], "live"),
-                  ("step", ["new"]), ("step", "new"), ("step", ("old",)), ("step",), ("next", 1), ["next"], "next", ("go", 0)]
+                  ("step", ["new"]), ("step", "new"), ("step", ("old",)), ("step",), ("next", 1), ["next"], "next", ("go", 0),
+                  ("steps", ("new",)), (None, ("new",)), ("touches", *LIVE)]
         for value in wrongs + strange():
             if not among([NEXT])(value):
                 paper = ("missed", ("old",), (NEXT, value, ("step", ("new",)), NEXT))

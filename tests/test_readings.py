@@ -265,7 +265,7 @@ class Papers(unittest.TestCase):
             ["met", sets], ("met", list(sets)), ("met", sets, sets), ("met",), (sets,), ("meets", sets), ("missed", sets),
             ("met", sets[1:]), ("met", (*sets, ())), ("met", (sets[0][::-1], *sets[1:])), ("met", (sets[0] * 2, *sets[1:])),
             ("met", (list(sets[0]), *sets[1:])), ("met", (sets[0][:1], *sets[1:])), ("met", sets[:2] + ((("new",),),)),
-            ("met", (sets[0], (), ())), ("met", (sets[0], (["old"],), ())), ("met", (sets[0], ("old",), ())),
+            ("met", (sets[0], (), ())), ("met", (sets[1], *sets[1:])), ("met", ((), (), ())), ("met", (sets[0], (["old"],), ())), ("met", (sets[0], ("old",), ())),
             ("met", (sets[0], (("new",),), ())), ("met", sets, ()), (["met"], sets), (None, sets), ("whole", sets),
         ]
         for value in wrongs + strange():
@@ -330,6 +330,35 @@ class Within(unittest.TestCase):
             self.assertIs(meets_within(mover, table, parts, 10 ** 40 - 1), meets(mover, table, parts))
             finite += least is not None and least > 1
         self.assertGreater(finite, 5)
+
+    def test_long_tracks(self):
+        # Ways that come later by fewer steps: placements in a ring with some more steps between them.
+        rng = random.Random(49)
+        lengths = set()
+        for _ in range(150):
+            names = "abcdef"
+            places = {name: (rng.choice("wxyz"),) for name in names}
+            steps = {pair for pair in zip(names, names[1:] + names[:1])} | {tuple(rng.sample(names, 2)) for _ in range(rng.randint(0, 3))}
+            steps = tuple(pair for pair in steps if rng.random() < 0.9)
+            spec = (("w", "x", "y", "z"), (("rows", places, steps), ("other", {"a": (), "b": ()}, (("a", "b"),))), None)
+            parts = tuple(rng.choice("wxyz") for _ in range(rng.randint(5, 16)))
+            least, mover = PlainReading(spec, "rows", parts).least_steps(), mover_told(spec)
+            self.assertEqual(meets(mover, "rows", parts), least is None)
+            if least is not None:
+                lengths.add(least)
+                told = [meets_within(mover, "rows", parts, many) for many in (least - 1, least) if many >= 0]
+                self.assertEqual(told[-2:], [True, False][-len(told):])
+                paper = reading_paper(mover, "rows", parts)
+                self.assertIs(is_reading_paper(mover, "rows", parts, paper), True)
+        self.assertGreater(max(lengths), 6)
+
+    def test_fewer_steps_from_a_placement_that_is_reached_later(self):
+        places = {"a": ("x", "z"), "b": ("y",), "c": ("w", "z"), "d": ("x", "y")}
+        steps = (("a", "b"), ("b", "c"), ("c", "d"), ("d", "a"), ("d", "b"))
+        spec = (("w", "x", "y", "z"), (("rows", places, steps),), None)
+        parts = tuple("zxxwxyxwwx")
+        self.assertEqual(PlainReading(spec, "rows", parts).least_steps(), 3)
+        self.assertEqual([meets_within(mover_told(spec), "rows", parts, many) for many in (2, 3)], [True, False])
 
     def test_shortest_readings_have_two_reads_more_than_steps(self):
         for many in range(5):

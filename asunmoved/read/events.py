@@ -9,7 +9,6 @@ from asunmoved.errors import InvalidOperation
 SEEN_AT = 6
 JOINT_AT = 9
 LINE_AT = 15
-RISEN_BITS = 63
 JOINT_BITS = 63
 ONE_LINE = 32768
 

@@ -249,8 +249,7 @@ class Question:
 
     def _answer(self, mover, chains):
         """The tuple of those chains that are within the limits."""
-        for table in self._limits:
-            need_table(mover, table)
+        # The limits are told by ascending names, so the least name that the mover does not have raises its error.
         places = [(mover.place_of(table), self._limits[table]) for table in self._limits]
         return tuple([
             chain for chain in chains if all([lies_within(chain[place][2], limit) for place, limit in places])

@@ -82,8 +82,8 @@ def missed_reading(sets, blind, parts):
     cuts = []
     for reads in range(len(parts), 0, -1):
         unseen = blind[parts[reads - 1]]
-        # What is left unseen by a read was there ahead of it, after as many steps; all else came by a step behind it.
-        while not unseen >> way[-1] & 1 or layers[reads - 1][way[-1]] != layers[reads][way[-1]]:
+        # What the read leaves unseen was there ahead of it, after as many steps; all else came by a step behind it.
+        while not unseen >> way[-1] & 1:
             way.append(one_step_before(sets.onward, layers[reads], way[-1]))
             cuts.append(reads)
     return ("missed", tuple([sets.joint_at(at) for at in way[::-1]]), tuple(cuts[::-1]))
