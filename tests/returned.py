@@ -2,6 +2,9 @@
 from asunmoved.base.joints import joint_placements
 from asunmoved.base.movers import Mover
 from asunmoved.base.rings import ring_classes, walks, way_paper
+from asunmoved.live.calm import CalmStore
+from asunmoved.live.guards import GuardedStore, blind_paper, live_situation, losing, waiting
+from asunmoved.live.live import LiveStore
 from asunmoved.read.lengths import length_paper, nodes
 from asunmoved.read.papers import hidden, missed_paper, reader_paper, situations
 from asunmoved.read.readers import Reader
@@ -34,6 +37,22 @@ def of_stores():
     return [store, question, store.chains(), list(store.chains())[0], store.rows("rows"), [question.limits], store.entries]
 
 
+def of_live_stores():
+    """Values that the modules about live stores returned."""
+    live = LiveStore(Store(Mover.single(("a", "b")), ("rows", ("o", None, 5), "a")))
+    run = live.begin(Reader(("if", "rows", "a", 1), ("read", "rows", "a"), ("read", "rows", "b")))
+    ended = live.begin(Reader.reading("rows", "a"))
+    situation = live_situation(run, ("o",))
+    ended.finish()
+    guarded = GuardedStore(live.store)
+    guarded.begin(Reader.reading("rows", "a", "b"))
+    return [
+        live, run, ended, ended.moments(), ended.told(), ended.rows_seen(), ended.standing(), ended.pairs_seen(), run.keys_led(), situation,
+        losing(live.mover, run.reader, situation), waiting(live, ("rows", "o", "b")), blind_paper(live.mover, Reader()), guarded,
+        guarded.run(1), CalmStore.empty(BOTH), live.trial(), live.running(AHEAD.reading("rows", "a")), [live], (run,), {"a": live}, live.store,
+    ]
+
+
 def returned():
     run = ChainRun(CHAIN, Reader(("read", "items", "live"), ("look", "orders", "live")), ("new", "new"))
     ended = ChainRun(OUT, Reader(), ("old",))
@@ -45,4 +64,4 @@ def returned():
         unseen_sets(COPY, "orders", ("live",)), reading_paper(COPY, "orders", ("live",)), careful_reader(CHAIN),
         reading_paper(CHAIN, "items", ("live", "archive")), readable_paper(CHAIN, "items"),
         readable_paper(BOTH.renamed(tables={"orders": "other"}), "other")[2], nodes(AHEAD), length_paper(AHEAD),
-    ] + of_words() + of_stores()
+    ] + of_words() + of_stores() + of_live_stores()
