@@ -4,12 +4,16 @@ from asunmoved.base.movers import Mover
 from asunmoved.base.rings import ring_classes, walks, way_paper
 from asunmoved.live.calm import CalmStore
 from asunmoved.live.guards import GuardedStore, blind_paper, live_situation, losing, waiting
+from asunmoved.live.groups import group_paper
+from asunmoved.live.journal import KeptStore, copies_on_disk
 from asunmoved.live.live import LiveStore
 from asunmoved.read.lengths import length_paper, nodes
 from asunmoved.read.papers import hidden, missed_paper, reader_paper, situations
 from asunmoved.read.readers import Reader
 from asunmoved.read.runs import ChainRun, beginnings
 from asunmoved.store.stores import Question, Store
+from asunmoved.text.formats import mover_text, reader_text, store_text
+from asunmoved.text.shell import Shell
 from asunmoved.words.cheapest import cheapest_paper, set_values
 from asunmoved.words.extras import extras_paper
 from asunmoved.words.readable import careful_reader, readable_paper
@@ -53,6 +57,18 @@ def of_live_stores():
     ]
 
 
+def of_journals_and_texts():
+    """Values that the modules about groups, journals and texts returned."""
+    kept = KeptStore(Store(Mover.single(("a", "b")), ("rows", ("o", None, 5), "a")))
+    kept.move(("rows", "o", "b"))
+    shell = Shell(kept)
+    shell("time")
+    return [
+        group_paper(kept.store, {"b": 0}, {"rows": 3}), group_paper(kept.store, {"a": 0, "b": 0}, {"rows": 3}), kept, kept.journal, kept.journal[:3],
+        copies_on_disk(kept.mover, kept.journal), mover_text(OUT), store_text(kept.store), reader_text(AGAIN), shell, shell.log,
+    ]
+
+
 def returned():
     run = ChainRun(CHAIN, Reader(("read", "items", "live"), ("look", "orders", "live")), ("new", "new"))
     ended = ChainRun(OUT, Reader(), ("old",))
@@ -64,4 +80,4 @@ def returned():
         unseen_sets(COPY, "orders", ("live",)), reading_paper(COPY, "orders", ("live",)), careful_reader(CHAIN),
         reading_paper(CHAIN, "items", ("live", "archive")), readable_paper(CHAIN, "items"),
         readable_paper(BOTH.renamed(tables={"orders": "other"}), "other")[2], nodes(AHEAD), length_paper(AHEAD),
-    ] + of_words() + of_stores() + of_live_stores()
+    ] + of_words() + of_stores() + of_live_stores() + of_journals_and_texts()

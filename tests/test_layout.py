@@ -185,12 +185,22 @@ class Layout(unittest.TestCase):
                         self.assertIn(alias.name, names[node.module], f"{path} {node.lineno}")
 
     def test_statements(self):
-        barred = (ast.Global, ast.AsyncFunctionDef, ast.Try, ast.Match, ast.Div)
+        barred = (ast.Global, ast.AsyncFunctionDef, ast.Match, ast.Div)
         for path, tree in trees():
             for node in ast.walk(tree):
                 self.assertNotIsInstance(node, barred, path)
                 if isinstance(node, ast.Constant):
                     self.assertNotIsInstance(node.value, (float, complex), path)
+
+    def test_own_errors_alone_are_caught(self):
+        own = set(defined(dict(trees())[TOP / "errors.py"]))
+        for path, tree in trees():
+            for node in ast.walk(tree):
+                if isinstance(node, ast.Try):
+                    self.assertEqual((node.orelse, node.finalbody), ([], []), path)
+                if isinstance(node, ast.ExceptHandler):
+                    names = node.type.elts if isinstance(node.type, ast.Tuple) else [node.type]
+                    self.assertLessEqual({name.id for name in names}, own, f"{path} {node.lineno}")
 
     def test_decorators_and_words(self):
         for path, tree in trees():

@@ -1,0 +1,1 @@
+"""Texts of movers, readers, stores and events, and a shell of commands."""
