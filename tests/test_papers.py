@@ -1,5 +1,6 @@
 import copy
 import random
+import time
 import types
 import unittest
 
@@ -322,6 +323,107 @@ class Checked(unittest.TestCase):
                 right = rights(value) and value[0] == "touch"
                 self.assertIs(is_reader_paper(BOTH, AHEAD, paper), right, value)
                 self.assertIs(is_reader_paper(BOTH, AHEAD, ("missed", ("old",), (NEXT, ("step", value), NEXT))), value == ("new",))
+
+
+def bare_papers():
+    """A mover without copies and steps, a reader with six tested pairs, and all 5824 situations ahead of line 13."""
+    pairs = [(item, "a") for item in "abcd"] + [(item, "b") for item in "abc"]
+    bare = Mover(
+        ("p", "q", "r"), ("item", {item: () for item in "abcd"}, ()), ("order", {"a": (), "b": ()}, ()), bonds=(tuple(pairs),),
+    )
+    tested = [(table, part) for table in ("item", "order") for part in ("p", "q", "r")]
+    lines = [("read", *pair) for pair in tested] + [("if", *pair, at) for at, pair in enumerate(tested, 7)]
+    reader = Reader.of((*lines, ("go", 0)))
+    every = [(at, joint, (False, False), risen) for at in range(13) for joint in pairs for risen in samples.some_of(tuple(tested))]
+    return bare, reader, tuple(sorted(every))
+
+
+class Fast(unittest.TestCase):
+    def test_papers_of_some_thousand_situations(self):
+        bare, reader, every = bare_papers()
+        self.assertEqual(len(every), 5824)
+        check = lambda value: is_reader_paper(bare, reader, ("whole", tuple(value)))
+        self.assertIs(check(every), True)
+        self.assertIs(check(every[1:]), False)
+        begin = time.perf_counter()
+        for at in (0, 1, 63, 64, 447, 448, 1000, 2500, 5000, 5822, 5823):
+            here, joint, seen, risen = every[at]
+            self.assertIs(check(every[:at] + every[at + 1:]), False)
+            self.assertIs(check(every[:at] + every[at:at + 1] + every[at:]), False)
+            for other in ((13, joint, seen, risen), (here, joint, (True, True), risen), (here, joint, (0, False), risen), (here, joint, (False, 0), risen),
+                          (here, joint, (False,), risen), (bool(here), joint, seen, risen), (here, joint, list(seen), risen), (here, list(joint), seen, risen),
+                          (here, joint, seen, list(risen)), (here, joint, seen, risen + risen[-1:]), [here, joint, seen, risen], (here, joint, seen), None):
+                if other not in ((here, joint, seen, ()),):
+                    self.assertIs(check((*every[:at], other, *every[at + 1:])), False, other)
+            swapped = (at + 1) % len(every)
+            exchanged = list(every)
+            exchanged[at], exchanged[swapped] = exchanged[swapped], exchanged[at]
+            self.assertIs(check(exchanged), False)
+        self.assertIs(check((*every, (13, ("a", "a"), (False, False), ()))), False)
+        self.assertIs(check((*every, (13, ("d", "a"), (False, False), ()))), False)
+        self.assertIs(check(every[::-1]), False)
+        self.assertLess(time.perf_counter() - begin, 3)
+
+    def test_truths_that_are_seen(self):
+        # Situations with 1 in the place of True are none, wherever they stand among others of one line.
+        reader = Reader(("read", "items", "live"), ("read", "items", "archive"), ("read", "orders", "live"), ("read", "orders", "archive"),
+                        ("if", "items", "live", 0), ("if", "orders", "live", 0))
+        told = tuple(listed(CHAIN, reader))
+        self.assertIs(is_reader_paper(CHAIN, reader, ("whole", told)), is_whole(CHAIN, reader))
+        self.assertIs(is_whole(CHAIN, reader), True)
+        seen = 0
+        for at, (here, joint, truths, risen) in enumerate(told):
+            changes = [(here, joint, tuple(1 if truth else truth for truth in truths), risen), (here, joint, tuple(int(truth) for truth in truths), risen)]
+            changes += [(here == 1, joint, truths, risen)] if here < 2 else []
+            for other in changes:
+                paper = ("whole", (*told[:at], other, *told[at + 1:]))
+                same = same_kind(other, told[at])
+                seen += not same
+                self.assertEqual(paper[1], told)
+                self.assertIs(is_reader_paper(CHAIN, reader, paper), same)
+        self.assertGreater(seen, 30)
+
+    def test_fifty_calls(self):
+        bare, reader, every = bare_papers()
+        papers_told = ("whole", every), ("whole", every[1:])
+        begin = time.perf_counter()
+        for _ in range(25):
+            self.assertEqual([is_reader_paper(bare, reader, paper) for paper in papers_told], [True, False])
+        self.assertLess(time.perf_counter() - begin, 2)
+        for more in (False, True):
+            spec, lines = many_situations(more)
+            mover, reader = mover_told(spec), Reader.of(lines)
+            for call in (is_whole, reader_paper, missed_paper, lambda one, two: hidden(one, two, 16), lambda one, two: next(situations(one, two))):
+                begin = time.perf_counter()
+                for _ in range(50):
+                    if more:
+                        with self.assertRaises(TooMany):
+                            call(mover, reader)
+                    else:
+                        call(mover, reader)
+                self.assertLess(time.perf_counter() - begin, 2)
+
+    def test_many_joint_placements(self):
+        """Steps between all of 36 joint placements, with none, some and six tested pairs, against the plain search."""
+        places = {name: (part,) for name, part in zip("abcdef", "wxyzwx")}
+        rng, counts = random.Random(24), [0, 0, 0]
+        for _ in range(25):
+            steps = [tuple((a, b) for a in "abcdef" for b in "abcdef" if a != b and rng.random() < rng.choice([0.1, 0.5, 1])) for _ in range(2)]
+            spec = (("w", "x", "y", "z"), (("one", places, steps[0]), ("two", places, steps[1])), None)
+            lines = samples.random_lines(rng, spec, rng.randint(1, 5))
+            mover, reader, plain = mover_told(spec), Reader.of(lines), Plain(spec, lines)
+            found = plain.distances(5000)
+            if len(found) > 5000:
+                counts[0] += 1
+                with self.assertRaises(TooMany):
+                    is_whole(mover, reader)
+                continue
+            ends = plain.ends(found)
+            counts[1 if ends else 2] += 1
+            self.assertEqual(listed(mover, reader), sorted(found))
+            self.assertEqual(len(missed_paper(mover, reader)[2]) if ends else missed_paper(mover, reader), min(ends) if ends else None)
+            self.assertIs(is_reader_paper(mover, reader, reader_paper(mover, reader)), True)
+        self.assertGreater(counts[1], 5)
 
 
 class Errors(unittest.TestCase):

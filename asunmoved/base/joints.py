@@ -38,6 +38,23 @@ def step_table(mover):
     return {joint: steps_from(mover, joint) for joint in mover.joints()}
 
 
+def step_bits(mover, width):
+    """For each joint placement, those to which joint steps lead, as bits that are so far apart."""
+    joints = mover.joints()
+    ones = [1 << number * width for number in range(len(joints))]
+    found = [sum(ones) - one for one in ones]
+    for place, table in enumerate(mover.tables):
+        lying = {}
+        for joint, one in zip(joints, ones):
+            lying[joint[place]] = lying.get(joint[place], 0) + one
+        onward = {name: lying[name] for name in lying}
+        for before, after in mover.steps(table):
+            if before in onward and after in lying:
+                onward[before] = onward[before] + lying[after]
+        found = [bits & onward[joint[place]] for bits, joint in zip(found, joints)]
+    return found
+
+
 def came_into(mover, joint, after):
     """The ascending tuple of the pairs into which rows come from one joint placement to another."""
     pairs = []

@@ -3,7 +3,6 @@
 from asunmoved.errors import InvalidOperation, Unreadable, Waits
 from asunmoved.live.live import LiveStore, Run
 from asunmoved.read.events import SEEN_AT, Lines, is_touch
-from asunmoved.read.papers import way_to
 from asunmoved.read.readers import need_reader
 from asunmoved.read.runs import is_seen, is_situation
 from asunmoved.store.deeds import placed_at, risen_by
@@ -17,6 +16,14 @@ MAX_TURNS = 100
 def bits_from(lowest, truths):
     """The integer with the bits of those that are true, from this one on."""
     return sum([1 << lowest + place for place, truth in enumerate(truths) if truth])
+
+
+def way_to(before, code):
+    """The integers that lead to one, by a dict from integers to those before them."""
+    way = [code]
+    while before[way[-1]] is not None:
+        way.append(before[way[-1]])
+    return way[::-1]
 
 
 class Rest(Lines):

@@ -1,15 +1,13 @@
 """Events, and the situations to which they lead, told by tuples and, for long searches, by integers."""
 
-from asunmoved.base.joints import came_into, step_table, steps_from
-from asunmoved.base.names import ascending, is_number_within
+from asunmoved.base.joints import came_into, step_bits, steps_from
+from asunmoved.base.names import ascending
 from asunmoved.errors import InvalidOperation
 
 # A situation as an integer has, from the lowest bit on, a bit for each tested pair that has risen, one for each
-# table whose row is seen, the position of the joint placement, and the line.
+# table whose row is seen, room for others, and the line; the joint placement stands beside it.
 SEEN_AT = 6
-JOINT_AT = 9
 LINE_AT = 15
-JOINT_BITS = 63
 ONE_LINE = 32768
 
 
@@ -81,6 +79,38 @@ def after_event(mover, reader, situation, event):
     raise InvalidOperation("this is no event that can be made now")
 
 
+def lying_bits(mover, tested):
+    """For each joint placement, the bits of those tested pairs in which the chain has a copy."""
+    found = [0 for joint in mover.joints()]
+    for place, table in enumerate(mover.tables):
+        parts = mover.placements(table)
+        bits = {
+            name: sum([1 << at for at, pair in enumerate(tested) if pair[0] == table and pair[1] in parts[name]])
+            for name in parts
+        }
+        found = [before + bits[joint[place]] for before, joint in zip(found, mover.joints())]
+    return found
+
+
+def leads_by_risen(mover, reader, width):
+    """For each joint placement, a dict from the bits of the pairs that rise by joint steps to where these lead.
+
+    Joint placements are bits that are so far apart.
+    """
+    lying = lying_bits(mover, reader.tested)
+    alike = {}
+    for number, bits in enumerate(lying):
+        alike[bits] = alike.get(bits, 0) + (1 << number * width)
+    leads = []
+    for here, onward in zip(lying, step_bits(mover, width)):
+        found = {}
+        for bits in alike:
+            if onward & alike[bits]:
+                found[bits & ~here] = found.get(bits & ~here, 0) + (onward & alike[bits])
+        leads.append(found)
+    return leads
+
+
 class Lines:
     """The lines of a reader, which lead from one integer to the next one."""
 
@@ -146,116 +176,75 @@ class Lines:
 
 
 class Plan(Lines):
-    """A mover and a reader that fits it, whose situations are told by integers."""
+    """A mover and a reader that fits it; joint placements are told by their positions, sets of them by bits."""
 
     def __init__(self, mover, reader):
         super().__init__(reader)
         self._mover = mover
-        self._tables = mover.tables
         self._all_seen = ((1 << len(mover)) - 1) << SEEN_AT
-        self._numbers = {joint: at for at, joint in enumerate(mover.joints())}
+        self._joints = mover.joints()
+        self._numbers = {joint: number for number, joint in enumerate(self._joints)}
         self._sights = [self._sight(line) for line in reader.lines]
-        self._leads = self._joint_leads()
+        self._leads = leads_by_risen(mover, reader, 1)
 
-    def first_codes(self):
-        """The integers of the beginnings, ascending."""
-        return [(at << JOINT_AT) + self.all_risen() for at in range(len(self._numbers))]
+    def every_joint(self):
+        """The set of all joint placements."""
+        return (1 << len(self._joints)) - 1
 
     def is_unseen(self, code):
-        """Whether the situation is open."""
+        """Whether a row is not seen."""
         return code & self._all_seen != self._all_seen
 
-    def behind_line(self, code):
-        """The integer behind the next line."""
-        seeing, needed, lying = self._sights[code >> LINE_AT]
-        behind = super().behind_line(code)
-        if lying >> (code >> JOINT_AT & JOINT_BITS) & 1 and code & needed == needed:
-            return behind | seeing
-        return behind
+    def behind_next(self, code, joints):
+        """Pairs of the integers behind the next line and those of these joint placements with which it leads there."""
+        seeing, needed, lying = self._sights[self.line_of(code)]
+        behind = self.behind_line(code)
+        sight = joints & lying if code & needed == needed else 0
+        return [(behind | seeing, sight), (behind, joints & ~sight)]
 
-    def stepped(self, code):
-        """The integers behind joint steps."""
-        kept = code & ~(JOINT_BITS << JOINT_AT)
-        return [kept | lead for lead in self._leads[code >> JOINT_AT & JOINT_BITS]]
+    def bit_ahead(self, code):
+        """The bit of the pair that the next line tests; none if it does something else."""
+        word, bit, goal = self._coded[self.line_of(code)]
+        return bit if word == "if" else 0
 
-    def behind(self, code):
-        """The integers of all other situations to which an event leads."""
-        if self.is_at_end(code):
-            return []
-        return [self.behind_line(code), *self.touched(code), *self.stepped(code)]
+    def leads_of(self, number):
+        """Pairs of the bits of the pairs that rise by joint steps and the joint placements to which these lead."""
+        return [(risen, self._leads[number][risen]) for risen in self._leads[number]]
 
-    def behind_event(self, code, event):
-        """The integer behind an event; None if it is no event that can be made."""
+    def behind_event(self, code, number, event):
+        """The integer and the joint placement behind an event; None if it is no event that can be made."""
         if self.is_at_end(code):
             return None
         if event == ("next",):
-            return self.behind_line(code)
+            return (self._behind_seen(code, number), number)
         if is_touch(self._mover, event):
-            return code | self.pair_bit(event[1:])
+            return (code | self.pair_bit(event[1:]), number)
         if not isinstance(event, tuple) or len(event) != 2 or event[0] != "step":
             return None
-        number = self.joint_number(event[1])
-        found = [after for after in self.stepped(code) if after >> JOINT_AT & JOINT_BITS == number]
-        return found[0] if found else None
+        after = self.joint_number(event[1])
+        found = [risen for risen, joints in self.leads_of(number) if after is not None and joints >> after & 1]
+        return (code | found[0], after) if found else None
 
-    def joint_of(self, code):
-        """The joint placement."""
-        return self._mover.joints()[code >> JOINT_AT & JOINT_BITS]
+    def joint_at(self, number):
+        """The joint placement at a position."""
+        return self._joints[number]
 
     def joint_number(self, value):
         """The position of a joint placement, or None for any other value."""
-        if value not in self._mover.joints():
-            return None
-        return self._numbers[value]
+        return self._numbers[value] if value in self._joints else None
 
-    def seen_of(self, code):
-        """A truth for each table, whether its row has been seen."""
-        return tuple([code >> SEEN_AT >> place & 1 == 1 for place in range(len(self._tables))])
-
-    def seen_bits(self, value):
-        """The bits of a tuple with a truth for each table, or None for any other value."""
-        if not isinstance(value, tuple) or len(value) != len(self._tables):
-            return None
-        found = 0
-        for place, truth in enumerate(value):
-            if truth is not True and truth is not False:
-                return None
-            found = found + (1 << place if truth else 0)
-        return found
-
-    def told(self, code):
-        """The situation."""
-        return (self.line_of(code), self.joint_of(code), self.seen_of(code), self.risen_of(code))
-
-    def code_of(self, value):
-        """The integer of a situation, or None for any other value."""
-        if not isinstance(value, tuple) or len(value) != 4 or not is_number_within(value[0], len(self._coded)):
-            return None
-        parts = [self.joint_number(value[1]), self.seen_bits(value[2]), self.risen_bits(value[3])]
-        if None in parts:
-            return None
-        return (value[0] << LINE_AT) + (parts[0] << JOINT_AT) + (parts[1] << SEEN_AT) + parts[2]
+    def _behind_seen(self, code, number):
+        """The integer behind the next line, beside a chain at this joint placement."""
+        seeing, needed, lying = self._sights[self.line_of(code)]
+        sees = lying >> number & 1 and code & needed == needed
+        return self.behind_line(code) | seeing if sees else self.behind_line(code)
 
     def _sight(self, line):
-        """The bit of the row that a line can see, those that have to be seen before, and where it has a copy."""
+        """The bit of the row that a line can see, that of the one that has to be seen, and where it has a copy."""
         if line[0] not in ("read", "look"):
             return (0, 0, 0)
         place = self._mover.place_of(line[1])
         lying = self._mover.placements(line[1])
-        places = [1 << at for joint, at in self._numbers.items() if line[2] in lying[joint[place]]]
-        seeing = 1 << SEEN_AT << place
+        places = [1 << number for joint, number in self._numbers.items() if line[2] in lying[joint[place]]]
+        seeing = 1 << SEEN_AT + place
         return (seeing, seeing >> 1 if line[0] == "look" else 0, sum(places))
-
-    def _joint_leads(self):
-        """For each joint placement, the bits of those to which joint steps lead and of the pairs that rise."""
-        steps = step_table(self._mover)
-        lying = {joint: self._lying(joint) for joint in steps}
-        return [
-            [(self._numbers[after] << JOINT_AT) + (lying[after] & ~lying[joint]) for after in steps[joint]]
-            for joint in steps
-        ]
-
-    def _lying(self, joint):
-        """The bits of the tested pairs in which the chain has a copy."""
-        placed = {table: self._mover.parts_of(table, name) for table, name in zip(self._tables, joint)}
-        return sum([self._bits[pair] for pair in self._tested if pair[1] in placed[pair[0]]])

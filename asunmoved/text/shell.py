@@ -105,11 +105,11 @@ class Shell:
         """The answer to a command, which is done."""
         words = command.split(" ")
         if words[0] == "move":
-            return self._move(moves_told(words))
+            return self._move_answer(moves_told(words))
         if words[0] == "begin":
-            return self._begin(reader_behind("begin", command))
+            return self._begin_answer(reader_behind("begin", command))
         if words[0] == "whole":
-            return self._whole(reader_behind("whole", command))
+            return self._whole_answer(reader_behind("whole", command))
         if not has_form(words):
             raise InvalidCommand("this is no command")
         if words[0] in ("line", "told", "close"):
@@ -120,7 +120,7 @@ class Shell:
             return str(self._live.time)
         return f"time {self._deed(words)}"
 
-    def _move(self, moves):
+    def _move_answer(self, moves):
         """Make a group that does not have to wait."""
         need_told(moves)
         try:
@@ -128,7 +128,7 @@ class Shell:
         except Waits as error:
             return " ".join(["waits for", *[str(number) for number in error.readers]])
 
-    def _begin(self, reader):
+    def _begin_answer(self, reader):
         """Begin a run of a reader that sees all that rests."""
         need_told(reader)
         try:
@@ -136,7 +136,7 @@ class Shell:
         except Unreadable:
             return "blind"
 
-    def _whole(self, reader):
+    def _whole_answer(self, reader):
         """Whether a reader can never miss anything, or how it can."""
         need_told(reader)
         mover = self._live.mover
