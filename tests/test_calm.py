@@ -189,8 +189,15 @@ class Beginning(unittest.TestCase):
             calm.begin_calm()
         self.assertEqual((run.finish(), run.missed(), calm.move(("orders", "o", "new"))), (True, (), 1))
 
+    def test_a_reader_that_began_behind_the_announcement(self):
+        """A step can wait for it, too, if it is not the one of begin_calm."""
+        calm = CalmStore(Store(BOTH, ("orders", ("o", None, 5), "old")))
+        calm.announce(OLD_NEW)
+        run, other = calm.begin(AHEAD), calm.begin_calm()
+        self.assertEqual([run.next_line(), other.next_line(), other.reader.lines], [1, 1, AHEAD.lines[::-1]])
+        self.assertEqual(waiting(calm, ("orders", "o", "new")), (1,))
+
     def test_a_table_that_cannot_be_read(self):
-        calm = CalmStore(SHOP)
         both = CHAIN.with_step("items", "old", "new")
         calm = CalmStore(Store(both))
         calm.announce(*steps_of(both))

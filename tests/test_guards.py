@@ -633,15 +633,14 @@ class Edges(unittest.TestCase):
         self.assertEqual((desk.move(("orders", "o", "old")), run.told()), (2, ((("o", None, 5),),)))
 
     def test_a_later_line_can_still_see_the_row(self):
-        # The run is between two reads of the live part; the row that leaves it ahead of the second one still waits
-        # if only the archive was read before, although a later line would see it where it is now.
+        """That does not let the group be made: a touch can lead past that line."""
         desk = GuardedStore(Store(OUT, ("orders", ("o", None, 5), "new")))
-        run = desk.begin(Reader.reading("orders", "archive", "live"))
-        run.next_line()
+        run = desk.begin(Reader(("read", *ARCHIVE), ("read", *LIVE), ("if", *LIVE, 4), ("read", *ARCHIVE)))
+        sure = desk.begin(Reader.reading("orders", "archive", "live", "archive"))
+        self.assertEqual([run.next_line(), sure.next_line()], [1, 1])
         self.assertEqual(waiting(desk, ("orders", "o", "old")), (1,))
-        other = desk.begin(Reader.reading("orders", "archive", "live", "archive"))
-        other.next_line()
-        self.assertEqual(waiting(desk, ("orders", "o", "old")), (1,))
+        told = losing(OUT, run.reader, (1, ("old",), (False,), (False,), (LIVE,)))
+        self.assertEqual(told, (NEXT, ("touch", *LIVE), NEXT))
 
     def test_first_item(self):
         desk = GuardedStore(Store(CHAIN, ORDER, FIRST))

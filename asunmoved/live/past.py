@@ -221,4 +221,7 @@ class Past:
 
     def _is_there(self, pair, begun, end):
         """Whether the row that was there under a pair at a time was there up to another one."""
-        return any([born <= begun and (gone is None or gone > end) for born, gone in self._lives[pair]])
+        born, gone = self._lives[pair][-1]
+        if born <= begun:
+            return gone is None or gone > end
+        return any([life[0] <= begun and life[1] > end for life in self._lives[pair][:-1]])

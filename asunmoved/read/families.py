@@ -115,11 +115,11 @@ class Families:
             if not heads or situation[:3] != heads[-1][0]:
                 heads.append((situation[:3], []))
             heads[-1][1].append(situation[3])
-        # Python takes True for 1, so what is equal to a head need not be one.
         places = [self._place_told(head) for head, risens in heads]
         families = self._families_told([risens for head, risens in heads])
         if None in places or None in families or not is_ascending(places):
             return None
+        # Python takes True for 1, so a situation that is equal to the first one of its head need not be one.
         if any([isinstance(situation[0], bool) for situation in value]):
             return None
         if not all([isinstance(truth, bool) for situation in value for truth in situation[2]]):
@@ -228,11 +228,11 @@ class Families:
         leads = leads_by_risen(self._mover, reader, self._width)
         raised = {}
         for found in leads:
-            for risen in found:
-                raised[risen] = raised[risen] if risen in raised else self._raised(risen)
+            for pairs in found:
+                raised[pairs] = raised[pairs] if pairs in raised else self._raised(pairs)
         return [
-            sum([raised[risen] * found[risen] for risen in found]) + (self._block << number * self._width)
-            for number, found in enumerate(leads)
+            sum([raised[risen] * some[risen] for risen in some]) + (self._block << number * self._width)
+            for number, some in enumerate(leads)
         ]
 
     def _rows_of_ways(self):
